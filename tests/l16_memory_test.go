@@ -169,7 +169,7 @@ func TestChangedPages(t *testing.T) {
 	}{
 		{m, m, nil}, {impl.Memory{}, impl.Memory{}, nil}, {m, impl.Memory{}, nil}, {m, memory(2), nil},
 		{impl.Memory{}, m, []int{0, 1, 2, 3}}, {memory(2), m, []int{2, 3}}, {m, other, []int{0, 3}}, {other, m, []int{0, 3}},
-		{memory(1), other, []int{0, 1, 2, 3}}, {memory(3), memory(70), []int{3, 4, 5, 6, 7, 8, 9, 10, 11, 12, 13, 14, 15, 16, 17, 18, 19, 20, 21, 22, 23, 24, 25, 26, 27, 28, 29, 30, 31, 32, 33, 34, 35, 36, 37, 38, 39, 40, 41, 42, 43, 44, 45, 46, 47, 48, 49, 50, 51, 52, 53, 54, 55, 56, 57, 58, 59, 60, 61, 62, 63, 64, 65, 66, 67, 68, 69}},
+		{memory(1), other, []int{0, 1, 2, 3}}, {memory(63), memory(66), []int{63, 64, 65}},
 		{impl.Memory{Pages: []string{"a", "b"}}, impl.Memory{Pages: []string{"a", "c", ""}}, []int{1, 2}},
 	}
 	for _, c := range cases {
