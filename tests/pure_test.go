@@ -144,3 +144,32 @@ func checkPure(t *testing.T, call any, args ...any) {
 	runtime.KeepAlive(wide)
 	runtime.KeepAlive(results)
 }
+
+// same reports whether two values are equal, if a nil slice and an empty slice are the same value.
+func same[T any](a T, b T) bool { return alike(reflect.ValueOf(a), reflect.ValueOf(b)) }
+
+func alike(a reflect.Value, b reflect.Value) bool {
+	switch a.Kind() {
+	case reflect.Struct:
+		for i := range a.NumField() {
+			if !alike(a.Field(i), b.Field(i)) {
+				return false
+			}
+		}
+		return true
+	case reflect.Slice:
+		if a.Len() != b.Len() {
+			return false
+		}
+		for i := range a.Len() {
+			if !alike(a.Index(i), b.Index(i)) {
+				return false
+			}
+		}
+		return true
+	}
+	return a.Equal(b)
+}
+
+// copyOf returns an equal value in new memory.
+func copyOf[T any](v T) T { return roomy(reflect.ValueOf(&v).Elem()).Interface().(T) }
