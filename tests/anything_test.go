@@ -3,6 +3,7 @@ package tests
 import (
 	"math/rand/v2"
 	"reflect"
+	"slices"
 	"strings"
 	"testing"
 
@@ -108,7 +109,7 @@ func shaken(r *rand.Rand, v reflect.Value) reflect.Value {
 
 // TestAnyArguments checks that a function neither panics nor changes or shares memory, whatever its arguments are.
 func TestAnyArguments(t *testing.T) {
-	for _, x := range examples() {
+	for _, x := range slices.Concat(examples(), deviceExamples(t), hostExamples(t)) {
 		t.Run(x.name, func(t *testing.T) {
 			checkPure(t, x.call, x.args...)
 			r := newRandom(99)

@@ -3,6 +3,7 @@ package tests
 import (
 	"slices"
 	"strings"
+	"sync"
 	"testing"
 
 	"loop.example/g03312/impl"
@@ -482,10 +483,19 @@ func TestHostDropped(t *testing.T) {
 	}
 }
 
+// someTraffic are the packets among which randomFrame chooses, made once.
+var someTraffic = sync.OnceValue(func() [][]impl.Packet {
+	var list [][]impl.Packet
+	for seed := range uint64(8) {
+		list = append(list, openedTraffic(seed))
+	}
+	return list
+})
+
 // randomFrame is a frame for a host, or for another one, or none.
 func randomFrame(seed uint64) string {
 	r := newRandom(seed)
-	packets := openedTraffic(r.Uint64() % 8)
+	packets := someTraffic()[r.UintN(8)]
 	p := packets[r.IntN(len(packets))]
 	switch r.UintN(12) {
 	case 0:

@@ -127,14 +127,14 @@ func checkPure(t *testing.T, call any, args ...any) {
 			t.Errorf("result %d depends on a capacity: %.200s and %.200s", i, one, two)
 		}
 	}
-	areas := areasOf(results)
+	areas, given := areasOf(results), areasOf(wide)
 	for i, a := range areas {
 		for _, b := range areas[:i] {
 			if overlap(a, b) {
 				t.Errorf("two slices of one result share memory: %+v", results)
 			}
 		}
-		for _, b := range areasOf(wide) {
+		for _, b := range given {
 			if overlap(a, b) {
 				t.Errorf("a result shares memory with an argument: %+v", results)
 			}
