@@ -118,8 +118,11 @@ func TestPutFrame(t *testing.T) {
 		f = next
 	}
 	for i, bad := range badFairs() {
-		if got, ok := impl.PutFrame(bad, 0, 5); !same(got, bad) || ok {
-			t.Errorf("to the invalid scheduler %d: got %+v, %v", i, got, ok)
+		// Also a frame that would make the scheduler valid is refused.
+		for queue := range 3 {
+			if got, ok := impl.PutFrame(bad, queue, 5); !same(got, bad) || ok {
+				t.Errorf("to queue %d of the invalid scheduler %d: got %+v, %v", queue, i, got, ok)
+			}
 		}
 		checkPure(t, impl.PutFrame, bad, 0, 5)
 	}
