@@ -302,6 +302,7 @@ func TestGrantPages(t *testing.T) {
 	checkPure(t, impl.GrantPages, functions(), base, 1, 9, []int{5, 6})
 	checkPure(t, impl.GrantPages, functions(), base, 5, 9, []int{5, 6})
 	checkPure(t, impl.GrantPages, functions(), base, 1, 10, []int{3})
+	checkPure(t, impl.GrantPages, functions(), base, 1, 10, []int(nil))
 }
 
 func TestFunctionsNeverChangeEachOthersPages(t *testing.T) {

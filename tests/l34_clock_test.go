@@ -171,6 +171,10 @@ func TestClocksRefuse(t *testing.T) {
 		if impl.AdvanceClock(k, 1) != k || impl.AdvanceClock(k, 0) != k || impl.StepClock(k, 1) != k || impl.StepClock(k, -1) != k || impl.TrimClock(k, 1000) != k {
 			t.Errorf("the invalid clock %+v is changed", k)
 		}
+		// Also what would become valid is not changed.
+		if impl.TrimClock(k, -1000000) != k || impl.StepClock(k, mostOffset) != k || impl.StepClock(k, -mostOffset) != k || impl.AdvanceClock(k, 1000000) != k {
+			t.Errorf("the invalid clock %+v is changed", k)
+		}
 	}
 }
 
