@@ -329,6 +329,14 @@ func TestHostReceive(t *testing.T) {
 	if (got.Rx[held].Device.Count-q.Device.Count+8)%8 != 2 || got.Vectors[held].Count != h.Vectors[held].Count+2 {
 		t.Errorf("two completions: got %+v, %+v", got.Rx[held], got.Vectors[held])
 	}
+	// So it is in the smallest completion queue, in which they come to the slot where the next one is.
+	small := copyOf(h)
+	small.Rx[held].Device = impl.CompletionQueue{Base: 4700, Size: 2, Count: 3}
+	small.Rx[held].Driver = small.Rx[held].Device
+	got = impl.HostReceive(small, frame(q.Held.Packet))
+	if got.Rx[held].Device.Count != 1 || got.Vectors[held].Count != h.Vectors[held].Count+2 {
+		t.Errorf("two completions in a small queue: got %+v, %+v", got.Rx[held], got.Vectors[held])
+	}
 	most := busyHost(t)
 	most.Counters.Frames = 1000000000000
 	if got := impl.HostReceive(most, "x"); got.Counters.Frames != 1000000000001 || impl.HostOk(got) {
