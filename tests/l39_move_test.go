@@ -251,6 +251,12 @@ func TestSameView(t *testing.T) {
 	if !impl.SameView(empty, filled) {
 		t.Error("a nil slice and an empty slice differ")
 	}
+	// A page that no mapping uses can make a host invalid, too.
+	odd := copyOf(h)
+	odd.Memory.Pages = append(odd.Memory.Pages, "short")
+	if impl.SameView(h, odd) || impl.SameView(odd, h) || impl.SameView(odd, odd) {
+		t.Error("a host with an invalid page is the same")
+	}
 	for name, bad := range badHosts(t) {
 		if impl.SameView(bad, bad) || impl.SameView(bad, h) || impl.SameView(h, bad) {
 			t.Errorf("an invalid host is the same: %s", name)
