@@ -266,7 +266,7 @@ func cardPackets() []impl.Packet {
 				list = append(list, between(src, dst, vlan, udp("x")))
 			}
 		}
-		list = append(list, between(src, 4, -1, tcp("data")))
+		list = append(list, between(src, 4, -1, tcp("data")), between(src, most48, -1, tcp(text(129))))
 		dropped := between(src, most48, -1, udp("dropped"))
 		dropped.Seg.DstPort = 7
 		list = append(list, dropped)
@@ -357,8 +357,10 @@ func TestCardTransmit(t *testing.T) {
 	checkPure(t, impl.CardTransmit, busyCard(t), 1)
 	checkPure(t, impl.CardTransmit, busyCard(t), 3)
 	for name, bad := range badCards(t) {
-		if got := impl.CardTransmit(bad, 0); !same(got, bad) {
-			t.Errorf("an invalid card transmits: %s", name)
+		for k := range 3 {
+			if got := impl.CardTransmit(bad, k); !same(got, bad) {
+				t.Errorf("an invalid card transmits: %s", name)
+			}
 		}
 	}
 	// When a count has come to its end, the packet is counted, but goes nowhere.

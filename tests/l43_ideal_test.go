@@ -287,6 +287,13 @@ func TestSameWorld(t *testing.T) {
 	if !impl.SameWorld(c, other) || !impl.SameWorld(clock, s) {
 		t.Error("the worlds differ")
 	}
+	invalid := []impl.Card{copyOf(c), copyOf(c), copyOf(c)}
+	invalid[0].Clock.Rate, invalid[1].Flash.Banks, invalid[2].Hosts[1].Counters.Bad = -1, nil, -1
+	for i, bad := range invalid {
+		if impl.SameWorld(bad, s) {
+			t.Errorf("the invalid card %d is in the same world", i)
+		}
+	}
 	two, _ := impl.NewCard(cardBoxes()[:2], oneQueue(), true, impl.Bucket{}, bootable(), 0)
 	if impl.SameWorld(two, s) || impl.SameWorld(c, impl.IdealOf(two)) || !impl.SameWorld(two, impl.IdealOf(two)) {
 		t.Error("worlds with other numbers of functions are the same")
